@@ -1,0 +1,1 @@
+"""Beamtender: weights put on a beam that may never tip too far."""
