@@ -18,8 +18,12 @@ def side(beam, standing):
     return "level"
 
 
+def past(beam, tipped):
+    return abs(tipped) > beam.limit
+
+
 def keeps(beam, standing):
-    return abs(tilt(beam, standing)) <= beam.limit
+    return not past(beam, tilt(beam, standing))
 
 
 def in_hand(beam, standing, weight):

@@ -3,14 +3,37 @@
 import unittest
 
 from beamtender.beam import Beam, as_standing, mirrored, under
-from beamtender.errors import BadBeam, BadStanding, NoWeight
+from beamtender.errors import (
+    BadBeam, BadStanding, BeamError, GoalPast, NoPlace, NoRoom, NoWay, NoWeight, StartPast, TipsBehind, TipsInHand,
+)
+from beamtender.layers import fewest, next_move
+from beamtender.limits import least
 from beamtender.looks import in_hand, keeps, loads, side, tilt
-from helping import HUGE, BeamCase, fields, some_beams, standings
+from beamtender.moves import moved, moves, refusal, turned
+from helping import HUGE, BeamCase, fields, keeping, some_beams, standings
 
 
 def looks(beam, standing):
     told = [ask(beam, standing) for ask in (as_standing, mirrored, tilt, side, keeps, loads)]
     return told + [in_hand(beam, standing, weight) for weight in range(1, len(beam.hefts) + 1)]
+
+
+def way_fields(way):
+    return way.reached, way.many, list(way.row), [list(layer) for layer in way.layers], list(way.again), list(way.shut)
+
+
+def way_lists(way):
+    return [way.row, way.layers, way.again, way.shut] + way.layers
+
+
+def least_fields(told):
+    return told.limit, list(told.row), list(told.shut)
+
+
+def spoil(told):
+    told.reverse()
+    told.append("spoilt")
+    told.insert(0, "spoilt")
 
 
 class HandedInStays(BeamCase):
@@ -48,6 +71,54 @@ class HandedInStays(BeamCase):
         self.refused(NoWeight, in_hand, beam, handed, 3)
         self.assertEqual(handed, [2, -1])
         self.assertEqual(fields(beam), (2, 1, (5, 3), 10))
+
+
+    def test_moves_stay(self):
+        for beam in (Beam(2, 1, [3, 5], 6), Beam(1, 2, (2, 2, 3), 3)):
+            told = fields(beam)
+            for standing in standings(beam):
+                for move in moves(beam, standing):
+                    places, handed = list(standing), list(move)
+                    refusal(beam, places, handed)
+                    moved(beam, places, handed)
+                    moves(beam, places)
+                    turned(handed)
+                    self.assertEqual((places, handed), (list(standing), list(move)))
+            self.assertEqual(fields(beam), told)
+
+    def test_moves_stay_where_they_are_refused(self):
+        beam = Beam(2, 1, [3, 5], 6)
+        for error, standing, move in (
+            (BadStanding, [1, 1], [1, 1, 0]), (NoWeight, [0, 1], [3, 0, 1]), (NoPlace, [0, 1], [1, 0, HUGE]),
+            (NoRoom, [0, 1], [1, 0, 1]), (TipsInHand, [0, 2], [1, 0, -1]), (TipsBehind, [0, 1], [1, 0, 2]),
+        ):
+            places, handed = list(standing), list(move)
+            self.refused(error, moved, beam, places, handed)
+            if error != BadStanding:
+                refusal(beam, places, handed)
+            self.assertEqual((places, handed), (standing, move))
+        self.assertEqual(fields(beam), (2, 1, (3, 5), 6))
+
+    def test_starts_and_goals_stay(self):
+        beam = Beam(2, 1, [3, 5], 5)
+        for start in standings(beam):
+            for goal in standings(beam):
+                first, last = list(start), list(goal)
+                for ask in (fewest, next_move, least):
+                    try:
+                        ask(beam, first, last)
+                    except BeamError as refused:
+                        self.assertIn(type(refused), (StartPast, GoalPast, NoWay))
+                    self.assertEqual((first, last), (list(start), list(goal)))
+        self.assertEqual(fields(beam), (2, 1, (3, 5), 5))
+
+    def test_one_list_as_start_and_goal(self):
+        beam = Beam(2, 1, [3, 5], 5)
+        handed = [-1, 1]
+        self.assertEqual(fewest(beam, handed, handed).layers, [[(-1, 1)]])
+        self.assertIsNone(next_move(beam, handed, handed))
+        self.assertEqual(least(beam, handed, handed).limit, 2)
+        self.assertEqual(handed, [-1, 1])
 
 
 class ChangedAfterwards(BeamCase):
@@ -94,7 +165,91 @@ class ChangedAfterwards(BeamCase):
         self.refused(BadStanding, tilt, beam, handed)
 
 
+    def test_a_standing_and_a_move(self):
+        beam = Beam(2, 1, [3, 5], 6)
+        standing, move = [0, 1], [2, 1, -1]
+        behind, all_moves, back = moved(beam, standing, move), moves(beam, standing), turned(move)
+        ahead = list(all_moves)
+        standing[1] = 2
+        move[2] = 0
+        move.clear()
+        self.assertEqual((behind, all_moves, back), ((0, -1), ahead, (2, -1, 1)))
+
+    def test_a_start_and_a_goal(self):
+        beam = Beam(1, 1, [1, 2, 3], 1)
+        start, goal = [-1, 1, 0], [0, -1, 1]
+        way, low = fewest(beam, start, goal), least(beam, start, goal)
+        ahead = way_fields(way), least_fields(low)
+        start[0] = 1
+        start.append(4)
+        goal.clear()
+        self.assertEqual((way_fields(way), least_fields(low)), ahead)
+        self.assertEqual(way.layers[0], [(-1, 1, 0)])
+
+
 class ToldIsTheCallersOwn(BeamCase):
+    def test_changed_moves_change_nothing(self):
+        for beam in some_beams():
+            for standing in standings(beam):
+                first, second = moves(beam, standing), moves(beam, standing)
+                expected = list(second)
+                spoil(first)
+                self.assertEqual(second, expected)
+                self.assertEqual(moves(beam, standing), expected)
+
+    def test_no_list_of_a_way_is_another_one(self):
+        beam = Beam(1, 1, [1, 2, 3], 1)
+        for start in keeping(beam):
+            for goal in keeping(beam):
+                first, second = fewest(beam, start, goal), fewest(beam, start, goal)
+                self.assertIsNot(first, second)
+                lists = way_lists(first) + way_lists(second)
+                self.assertEqual(len({id(told) for told in lists}), len(lists))
+
+    def test_changed_lists_of_a_way_change_nothing(self):
+        # One beam each where goals can be come to, where some can't, and where no start has a move.
+        for beam in (Beam(2, 1, [3, 5], 6), Beam(1, 1, [1, 2, 3], 1), Beam(1, 1, [5, 5], 4)):
+            for start in keeping(beam):
+                for goal in keeping(beam):
+                    expected = way_fields(fewest(beam, start, goal))
+                    for seat in range(len(way_lists(fewest(beam, start, goal)))):
+                        self.check_spoilt_way(beam, start, goal, seat, expected)
+
+    def check_spoilt_way(self, beam, start, goal, seat, expected):
+        way, other = fewest(beam, start, goal), fewest(beam, start, goal)
+        lists = way_lists(way)
+        ahead = [list(told) for told in lists]
+        spoil(lists[seat])
+        for place, told in enumerate(lists):
+            # Place 1 is the list of the layers themselves: a spoilt layer is to be seen in it.
+            if place not in (1, seat):
+                self.assertEqual(told, ahead[place])
+        self.assertEqual(way_fields(other), expected)
+        self.assertEqual(way_fields(fewest(beam, start, goal)), expected)
+
+    def test_changed_lists_of_a_least_limit_change_nothing(self):
+        beam = Beam(1, 1, [1, 2, 3], 1)
+        for start in standings(beam):
+            for goal in standings(beam):
+                first, second = least(beam, start, goal), least(beam, start, goal)
+                expected = least_fields(second)
+                self.assertIsNot(first, second)
+                spoil(first.shut)
+                self.assertEqual(first.row, expected[1])
+                spoil(first.row)
+                self.assertEqual(least_fields(second), expected)
+                self.assertEqual(least_fields(least(beam, start, goal)), expected)
+                self.assertEqual(len({id(told) for told in (first.row, first.shut, second.row, second.shut)}), 4)
+
+    def test_changed_ways_and_moves_change_no_other_question(self):
+        beam = Beam(1, 1, [1, 2, 3], 1)
+        start, goal, other = (-1, 1, 0), (1, -1, 0), (0, -1, 1)
+        ahead = moves(beam, start), next_move(beam, start, goal), least_fields(least(beam, start, other))
+        for told in way_lists(fewest(beam, start, goal)) + way_lists(fewest(beam, start, other)) + [moves(beam, start)]:
+            spoil(told)
+        self.assertEqual(
+            (moves(beam, start), next_move(beam, start, goal), least_fields(least(beam, start, other))), ahead)
+
     def test_changed_loads_change_nothing(self):
         for beam in some_beams():
             for standing in standings(beam):
@@ -153,6 +308,15 @@ class NothingIsKept(BeamCase):
             self.refused(BadStanding, as_standing, narrow, [2, 0])
             self.assertEqual(loads(wide, [1, 0]), [0, 0, 1, 1, 0])
             self.assertEqual(loads(narrow, [1, 0]), [0, 1, 1])
+
+    def test_the_same_question_at_beams_of_other_limits_and_hefts(self):
+        for turn in range(2):
+            for limit, many in ((0, None), (1, 3), (400, 3), (0, None)):
+                self.assertEqual(fewest(Beam(1, 1, [1, 1], limit), (1, -1), (-1, 1)).many, many)
+                self.assertEqual(least(Beam(1, 1, [1, 1], limit), (1, -1), (-1, 1)).limit, 1)
+            self.assertEqual(least(Beam(1, 1, [7, 7], 0), (1, -1), (-1, 1)).limit, 7)
+            self.assertEqual(moves(Beam(1, 1, [7], 6), [0]), [])
+            self.assertEqual(moves(Beam(1, 1, [7], 7), [0]), [(1, 0, -1), (1, 0, 1)])
 
     def test_a_refusal_leaves_nothing_behind(self):
         beam = Beam(2, 1, [5, 3], 10)

@@ -5,15 +5,7 @@ import unittest
 from beamtender.beam import Beam, mirrored, under
 from beamtender.errors import BadStanding, NoWeight
 from beamtender.looks import in_hand, keeps, loads, side, tilt
-from helping import HUGE, BeamCase, some_beams, standings
-
-
-def counted_tilt(beam, standing, left_out=None):
-    total = 0
-    for seat in range(len(standing)):
-        if seat + 1 != left_out:
-            total += beam.hefts[seat] * standing[seat]
-    return total
+from helping import HUGE, BeamCase, counted_tilt, some_beams, standings
 
 
 class Tilt(BeamCase):

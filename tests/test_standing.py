@@ -4,10 +4,16 @@ import unittest
 
 from beamtender.beam import Beam, as_standing, mirrored, under
 from beamtender.errors import BadStanding
+from beamtender.layers import fewest, next_move
+from beamtender.limits import least
 from beamtender.looks import in_hand, keeps, loads, side, tilt
+from beamtender.moves import moved, moves, refusal
 from helping import HUGE, BeamCase, is_standing, rows_of_places, some_beams, standings
 
-ASKED = (as_standing, mirrored, tilt, side, keeps, loads)
+ASKED = (as_standing, mirrored, tilt, side, keeps, loads, moves)
+ASKED_WITH_A_MOVE = (refusal, moved)
+ASKED_WITH_A_GOAL = (fewest, next_move, least)
+MOVES = ((1, 0, 1), (1, 1, 1), (0, 0, 0), (6, 0, 1), (1, 0, 9), (-1, -HUGE, HUGE), (HUGE, HUGE, -HUGE))
 
 
 class StandingCase(BeamCase):
@@ -29,6 +35,20 @@ class StandingCase(BeamCase):
             for weight in (0, 1, 2, 6, -1, HUGE, -HUGE):
                 with self.subTest(ask="in_hand", handed=handed, weight=weight):
                     self.refused(BadStanding, in_hand, beam, handed, weight)
+            for ask in ASKED_WITH_A_MOVE:
+                for move in MOVES:
+                    with self.subTest(ask=ask.__name__, handed=handed, move=move):
+                        self.refused(BadStanding, ask, beam, handed, move)
+            self.bad_start_or_goal(under(beam, 0), handed)
+
+    def bad_start_or_goal(self, beam, handed):
+        # Under this limit the other one is past it, as a start and as a goal, unless it is the tray.
+        tray, past = [0] * len(beam.hefts), [beam.notches] + [0] * (len(beam.hefts) - 1)
+        for ask in ASKED_WITH_A_GOAL:
+            for other in (tray, past, handed):
+                with self.subTest(ask=ask.__name__, handed=handed, other=other):
+                    self.refused(BadStanding, ask, beam, handed, other)
+                    self.refused(BadStanding, ask, beam, other, handed)
 
 
 class Standings(StandingCase):
