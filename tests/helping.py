@@ -1,14 +1,30 @@
-"""What the tests share: asking for a refusal's very class, many beams with all their rows of places, and a search.
+"""What the tests share: asking for a refusal's very class, many beams with all their rows of places, a search, texts.
 
 What is counted here calls nothing of the program but Beam, so that the program can be held against it.
 """
 
 import itertools
+import re
 import unittest
 
 from beamtender.beam import Beam
 
 HUGE = 10 ** 30
+
+# Words as texts hold them: plain numbers and places with what they tell, and words that are none.
+NUMBERS = {"0": 0, "1": 1, "5": 5, "10": 10, "99": 99, "100": 100, "1000": 1000, "9090": 9090, "9999": 9999}
+# Some of these Python reads as numbers, or as numbers with something cut off: none is a plain number or a place.
+NEITHER = (
+    "10000", "99999", "00", "01", "007", "0001", "00001", "+1", "+0", "-0", "-00", "-01", "-007", "--1", "+-1", "-+1",
+    "- 1", "-", "--", "+", "", "1a", "a1", "a", "1-", "1-1", "1.0", "1.", "1_0", "1e1", "0x1", "1,", "1:", "'1'", "(1)",
+    "Tray", "TRAY", "tra", "trays", "tray1", "1tray", "-tray", "+tray", "none", "left", " 1", "1 ", "\n1", "1\n", " ",
+    "\n", "9" * 30, "1" * 399,
+)
+NO_NUMBERS = NEITHER + ("-1", "-5", "-9999", "-10000", "tray")
+PLACES = {"tray": 0}
+PLACES.update({text: number for text, number in NUMBERS.items() if number})
+PLACES.update({"-" + text: -number for text, number in NUMBERS.items() if number})
+NO_PLACES = NEITHER + ("0", "-10000")
 
 
 class BeamCase(unittest.TestCase):
@@ -122,3 +138,41 @@ def walked(beam, start, row):
             return None
         standing = put_at(standing, move[0], move[2])
     return standing
+
+
+def again_in(row):
+    weights = [move[0] for move in row]
+    return sorted({weight for weight in weights if weights.count(weight) > 1})
+
+
+def place_text(place):
+    return "tray" if place == 0 else f"{place}"
+
+
+def standing_text(standing):
+    return " ".join(place_text(place) for place in standing) or "none"
+
+
+def move_text(move):
+    return f"{move[0]} {place_text(move[1])} {place_text(move[2])}"
+
+
+def beam_text(beam, standing):
+    weights = "".join(f"\nweight {heft} {place_text(place)}" for heft, place in zip(beam.hefts, standing))
+    return f"notches {beam.notches}\nroom {beam.room}\nlimit {beam.limit}" + weights
+
+
+def row_text(row):
+    return f"{len(row)} moves" + (": " if row else "") + ", ".join(move_text(move) for move in row)
+
+
+def tilt_text(beam, standing):
+    tipped = counted_tilt(beam, standing)
+    return f"tilt {tipped} " + ("left" if tipped < 0 else "right" if tipped > 0 else "level")
+
+
+def row_in(text):
+    """The row of moves that the text tells, or None where it is not written as a row of moves is."""
+    moves = [(int(weight), int(taken.replace("tray", "0")), int(put.replace("tray", "0")))
+             for weight, taken, put in re.findall(r"(\d+) (tray|-?\d+) (tray|-?\d+)", text)]
+    return moves if row_text(moves) == text else None

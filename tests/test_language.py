@@ -23,6 +23,12 @@ BANNED_FORMS = (
     ast.AsyncFunctionDef, ast.AsyncWith, ast.Await, ast.SetComp, ast.DictComp, ast.GeneratorExp, ast.NamedExpr,
     ast.Starred, ast.Div, ast.Import, ast.AnnAssign,
 )
+METHODS = set(
+    "append clear copy count endswith extend find get index insert isalnum isalpha isdigit islower isspace isupper "
+    "items join keys ljust lower lstrip partition pop remove replace reverse rfind rjust rpartition rsplit rstrip "
+    "setdefault split splitlines startswith strip update upper values zfill bit_length".split()
+)
+OTHERS_NAMES = set(dir(str) + dir(int) + dir(list) + dir(dict) + dir(set) + dir(bytes))
 UNDERSCORED = set("__init__ __eq__ __repr__ __str__ __len__ __all__ __version__".split())
 
 
@@ -44,6 +50,30 @@ def names_in(node):
 
 def is_plain(node):
     return not any(isinstance(part, (ast.Call, ast.Attribute, ast.Lambda, ast.ListComp)) for part in ast.walk(node))
+
+
+def parsed():
+    return [(path, ast.parse(path.read_text(encoding="utf-8"))) for path in sources()]
+
+
+def defined(tree):
+    """The names that the file itself binds at its top: its defs, classes and plain values."""
+    found = [node.name for node in tree.body if isinstance(node, (ast.FunctionDef, ast.ClassDef))]
+    return found + [node.targets[0].id for node in tree.body if isinstance(node, ast.Assign)]
+
+
+def drawn(tree):
+    """For each module that the file draws from, the names it draws."""
+    return {node.module: [alias.name for alias in node.names] for node in tree.body if isinstance(node, ast.ImportFrom)}
+
+
+def locals_in(tree):
+    return [name for node in ast.walk(tree) for name in names_in(node) if isinstance(node, ast.arg) or (
+        isinstance(node, ast.Name) and isinstance(node.ctx, ast.Store) and node not in tops(tree))]
+
+
+def tops(tree):
+    return [node.targets[0] for node in tree.body if isinstance(node, ast.Assign)]
 
 
 class Language(unittest.TestCase):
@@ -120,6 +150,62 @@ class Language(unittest.TestCase):
             self.assertEqual(node.level, 0)
             self.assertRegex(node.module, r"^beamtender\.[a-z_]+$")
             self.assertNotIn("*", [alias.name for alias in node.names])
+
+    def test_names_are_drawn_from_the_file_that_defines_them(self):
+        own = {"beamtender." + path.stem: defined(tree) for path, tree in parsed()}
+        for path, tree in parsed():
+            for module, names in drawn(tree).items():
+                with self.subTest(file=path.name, module=module):
+                    self.assertLessEqual(set(names), set(own[module]))
+
+    def test_no_two_files_draw_from_one_another(self):
+        ahead = {"beamtender." + path.stem: set(drawn(tree)) for path, tree in parsed()}
+        while ahead:
+            ready = [module for module in ahead if not ahead[module] & set(ahead)]
+            self.assertTrue(ready, ahead)
+            for module in ready:
+                ahead.pop(module)
+
+    def test_locals(self):
+        for path, tree in parsed():
+            taken = {node.name for node in tree.body if isinstance(node, ast.ClassDef)} | set(dir(builtins))
+            for names in drawn(tree).values():
+                taken |= set(names)
+            self.assertEqual(set(locals_in(tree)) & taken, set(), path.name)
+
+    def test_methods_and_values(self):
+        classes = [node for path, tree in parsed() for node in tree.body if isinstance(node, ast.ClassDef)]
+        methods = [part.name for node in classes for part in node.body if part.name != "__init__"]
+        values = [part.attr for node in classes for part in ast.walk(node)
+                  if isinstance(part, ast.Attribute) and isinstance(part.ctx, ast.Store)]
+        self.assertEqual(set(methods) & set(values), set())
+        self.assertEqual((set(methods) | set(values)) & OTHERS_NAMES, set())
+        for path, tree in parsed():
+            for node in ast.walk(tree):
+                if isinstance(node, ast.Call) and isinstance(node.func, ast.Attribute):
+                    with self.subTest(file=path.name, line=node.lineno):
+                        self.assertIn(node.func.attr, METHODS | set(methods) | {"__init__"})
+
+    def test_expressions(self):
+        self.each_node(self.check_expression)
+
+    def check_expression(self, node):
+        if isinstance(node, ast.ListComp):
+            self.assertEqual(len(node.generators), 1)
+            self.assertLessEqual(len(node.generators[0].ifs), 1)
+        if isinstance(node, ast.FormattedValue):
+            self.assertIsInstance(node.value, ast.Name)
+            self.assertIsNone(node.format_spec)
+        if isinstance(node, ast.Compare) and isinstance(node.ops[0], (ast.Is, ast.IsNot)):
+            self.assertIsInstance(node.comparators[0], ast.Constant)
+            self.assertIn(node.comparators[0].value, (None, True, False))
+        if isinstance(node, ast.Constant) and isinstance(node.value, str):
+            self.assertNotIn("%", node.value)
+        if isinstance(node, ast.ExceptHandler):
+            self.assertIsInstance(node.type, ast.Name)
+            self.assertNotIn(node.type.id, ("Exception", "TypeError"))
+        if isinstance(node, ast.Raise):
+            self.assertIsInstance(node.exc, ast.Call)
 
     def test_tops(self):
         for path in sources():

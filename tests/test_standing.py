@@ -4,13 +4,15 @@ import unittest
 
 from beamtender.beam import Beam, as_standing, mirrored, under
 from beamtender.errors import BadStanding
+from beamtender.game import Play
 from beamtender.layers import fewest, next_move
 from beamtender.limits import least
 from beamtender.looks import in_hand, keeps, loads, side, tilt
 from beamtender.moves import moved, moves, refusal
+from beamtender.texts import write_beam, write_standing
 from helping import HUGE, BeamCase, is_standing, rows_of_places, some_beams, standings
 
-ASKED = (as_standing, mirrored, tilt, side, keeps, loads, moves)
+ASKED = (as_standing, mirrored, tilt, side, keeps, loads, moves, write_standing, write_beam)
 ASKED_WITH_A_MOVE = (refusal, moved)
 ASKED_WITH_A_GOAL = (fewest, next_move, least)
 MOVES = ((1, 0, 1), (1, 1, 1), (0, 0, 0), (6, 0, 1), (1, 0, 9), (-1, -HUGE, HUGE), (HUGE, HUGE, -HUGE))
@@ -40,6 +42,7 @@ class StandingCase(BeamCase):
                     with self.subTest(ask=ask.__name__, handed=handed, move=move):
                         self.refused(BadStanding, ask, beam, handed, move)
             self.bad_start_or_goal(under(beam, 0), handed)
+            self.bad_in_a_play(under(beam, 0), handed)
 
     def bad_start_or_goal(self, beam, handed):
         # Under this limit the other one is past it, as a start and as a goal, unless it is the tray.
@@ -49,6 +52,14 @@ class StandingCase(BeamCase):
                 with self.subTest(ask=ask.__name__, handed=handed, other=other):
                     self.refused(BadStanding, ask, beam, handed, other)
                     self.refused(BadStanding, ask, beam, other, handed)
+
+    def bad_in_a_play(self, beam, handed):
+        with self.subTest(ask="Play", handed=handed):
+            self.refused(BadStanding, Play, beam, handed)
+        play = Play(beam, [0] * len(beam.hefts))
+        for ask in (play.fewest, play.next_move, play.least):
+            with self.subTest(ask=ask.__name__, handed=handed):
+                self.refused(BadStanding, ask, handed)
 
 
 class Standings(StandingCase):
